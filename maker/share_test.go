@@ -168,20 +168,26 @@ func checkFill(t *testing.T, rods []api.Rod, yields []map[tally]bool, parts []ap
 	return len(set)
 }
 
+// checkBoth compares both functions with what cuts of rods yield, for random takes and a random order of up to so many. It returns how many wares are made, and how many rods are used.
+func checkBoth(t *testing.T, r *rand.Rand, rods []api.Rod, parts []api.Part, most int, yieldsOf func(api.Rod, []api.Part, int) map[tally]bool) (int, int) {
+	t.Helper()
+	kerf := randomKerf(r)
+	var yields []map[tally]bool
+	for _, rod := range rods {
+		yields = append(yields, yieldsOf(rod, parts, kerf))
+	}
+	takes := randomCounts(r, len(parts), 2)
+	takes[r.Intn(len(parts))] = 1
+	return checkWares(t, rods, yields, parts, kerf, takes), checkFill(t, rods, yields, parts, kerf, randomCounts(r, len(parts), most))
+}
+
 func TestSharesAgainstAllCuts(t *testing.T) {
 	r := rand.New(rand.NewSource(12))
 	wares, fills := map[int]int{}, map[int]int{}
 	for range 150 {
-		kinds := 1 + r.Intn(3)
-		rods, parts, kerf := randomRods(r, r.Intn(4), 200, 480), randomParts(r, kinds, 220), randomKerf(r)
-		var yields []map[tally]bool
-		for _, rod := range rods {
-			yields = append(yields, tallies(rod, parts, kerf))
-		}
-		takes := randomCounts(r, kinds, 2)
-		takes[r.Intn(kinds)] = 1
-		wares[checkWares(t, rods, yields, parts, kerf, takes)]++
-		fills[checkFill(t, rods, yields, parts, kerf, randomCounts(r, kinds, 2))]++
+		many, used := checkBoth(t, r, randomRods(r, r.Intn(4), 200, 480), randomParts(r, 1+r.Intn(3), 220), 2, tallies)
+		wares[many]++
+		fills[used]++
 	}
 	if wares[0] < 50 || wares[1] < 10 || wares[2] < 3 || fills[-1] < 30 || fills[1] < 10 || fills[2] < 5 {
 		t.Error("the random rods are not of all kinds:", wares, fills)
@@ -192,16 +198,9 @@ func TestSharesOfMoreRods(t *testing.T) {
 	r := rand.New(rand.NewSource(13))
 	wares, fills := map[int]int{}, map[int]int{}
 	for range 150 {
-		kinds := 1 + r.Intn(3)
-		rods, parts, kerf := randomRods(r, 2+r.Intn(4), 400, 1800), randomParts(r, kinds, 300), randomKerf(r)
-		var yields []map[tally]bool
-		for _, rod := range rods {
-			yields = append(yields, early(rod, parts, kerf))
-		}
-		takes := randomCounts(r, kinds, 2)
-		takes[r.Intn(kinds)] = 1
-		wares[checkWares(t, rods, yields, parts, kerf, takes)]++
-		fills[checkFill(t, rods, yields, parts, kerf, randomCounts(r, kinds, 6))]++
+		many, used := checkBoth(t, r, randomRods(r, 2+r.Intn(4), 400, 1800), randomParts(r, 1+r.Intn(3), 300), 6, early)
+		wares[many]++
+		fills[used]++
 	}
 	if len(wares) < 6 || len(fills) < 5 {
 		t.Error("the random rods are not of all kinds:", wares, fills)
